@@ -1,0 +1,1 @@
+"""Chooseonce: tables that tell what choosing once would tell."""

@@ -1,0 +1,40 @@
+"""The kinds of a way, and which places they have."""
+
+
+def kinds_of(way):
+    """The kinds of a way: for each piece "lot", or the first words of its marks."""
+    return tuple([_kind_of(piece) for piece in way[1]])
+
+
+def part_places(kinds):
+    """The places of the parts, rising."""
+    return tuple([place for place, kind in enumerate(kinds) if kind == "lot"])
+
+
+def sign_places(kinds):
+    """The refs to all marks "sign", by piece, then row."""
+    return _refs_to(kinds, ("sign",))
+
+
+def run_places(kinds):
+    """The refs to all marks "run", by piece, then row."""
+    return _refs_to(kinds, ("run",))
+
+
+def mark_places(kinds):
+    """The refs to all marks, by piece, then row."""
+    return _refs_to(kinds, ("sign", "none", "run"))
+
+
+def _kind_of(piece):
+    if piece[0] == "lot":
+        return "lot"
+    return tuple([mark[0] for mark in piece[1]])
+
+
+def _refs_to(kinds, words):
+    refs = []
+    for piece, kind in enumerate(kinds):
+        if kind != "lot":
+            refs.extend([(piece, row) for row, word in enumerate(kind) if word in words])
+    return tuple(refs)

@@ -1,0 +1,105 @@
+"""What all tests need: the programs of the document, and strict comparisons."""
+
+import unittest
+
+FOLD = """signs ab
+rows 1
+pairs mate ab ba
+start fold
+lot fold
+way stop(none)
+way free(sign, fold)
+way bond(sign, fold, sign, fold) when mate 0 2
+judge worth number
+for stop 0
+for free x1
+for bond 1 + x1 + x3
+judge ways product
+for stop 1
+for free x1
+for bond x1 * x3
+judge dots text
+for stop
+for free "." x1
+for bond "(" x1 ")" x3
+ask most = greatest worth
+ask how = (greatest worth then total ways)
+ask all = (each worth names dots)"""
+
+# About two rows: it has every kind of line, judge, piece, mark, formula and ask.
+PAIR = """signs abc
+rows 2
+pairs same aa bb cc
+pairs up ab bc
+numbers gain 1 else -1 a 2 b -3 c 0
+numbers cost 2 else 5 ab 0 ba -7
+start both
+lot both
+way stop(none / none)
+way match(sign / sign, both) when same 0.0 0.0 and up 0.0 0.1
+way turn(sign(ab) / sign(c), both)
+way left(run 1 any / none, rest)
+way right(none / run 1 3, both)
+lot rest
+way last(run 2 2 / sign, none / none, both)
+way lone(both)
+judge worth number
+for stop 0
+for match gain[0.0] + cost[0.0, 0.1] + x1
+for turn max(2 * x1 - 3, -x1, 0 * gain[0.1])
+for left -2 * len 0.0 + x1
+for right min(len 0.1, 7)
+for last len 0.0 - 4 * gain[0.1] + 3 * x2
+for lone x0 + x0
+judge size number
+for stop 0
+for match 2 + x1
+for turn 2 + x1
+for left len 0.0 + x1
+for right len 0.1 + x1
+for last 1 + len 0.0 + x2
+for lone x0
+judge ways product
+for stop 1
+for match x1 - x1
+for turn 2 * gain[0.0] * cost[0.1, 0.0] * x1 * x1 + 3
+for left -x1
+for right -4 + x1
+for last gain[0.1]
+for lone x0 * x0 * x0
+judge told text
+for stop
+for match at 0.0 at 0.1 x1
+for turn "<>" x1 ""
+for left at 0.0 at 0.1 x1
+for right x1 x1
+for last "a b" at 0.0 x2 at 1.1
+for lone x0
+ask low = least worth
+ask high = greatest worth
+ask some = best 2 worth
+ask both = ends 1 worth
+ask near = within 0 worth
+ask each1 = spread ways
+ask all = total ways
+ask texts = names told
+ask one = first
+ask keyed = (each told (each worth first))
+ask then1 = ((least worth then total ways) beside names told)
+ask front = (least worth against greatest size)
+"""
+
+
+class Case(unittest.TestCase):
+    """Compares kinds of values, too, and errors by their class and fields."""
+
+    def same(self, got, want):
+        self.assertEqual(got, want)
+        # A list is no tuple, and True is not 1.
+        self.assertEqual(repr(got), repr(want))
+
+    def raises(self, error, function, *args, **named):
+        with self.assertRaises(type(error)) as caught:
+            function(*args, **named)
+        self.assertIs(type(caught.exception), type(error))
+        self.same(vars(caught.exception), vars(error))

@@ -1,0 +1,55 @@
+"""The head of the interface: each name in its file, with its parameters."""
+
+import importlib
+import inspect
+
+from chooseonce.readers import LineReader
+from tests.helping import Case
+
+FUNCTIONS = {
+    "words": ("words_in(line, text)", "is_name(word)"),
+    "wayreading": (
+        "read_way(rows, text)", "way_from(reader, rows)", "piece_from(reader, rows)",
+        "ref_from(reader, rows)",
+    ),
+    "formreading": ("read_formula(sort, rows, text)", "formula_from(reader, sort, rows)"),
+    "askreading": ("read_ask(text)", "ask_from(reader)"),
+    "programs": ("read(text)",),
+    "shownparts": (
+        "shown_way(rows, way)", "shown_formula(sort, rows, formula)", "shown_ask(ask)",
+        "shown_ref(rows, ref)",
+    ),
+    "showing": ("shown(program)",),
+    "kinds": ("kinds_of(way)", "part_places(kinds)", "sign_places(kinds)", "run_places(kinds)"),
+    "askparts": ("judges_of(ask)", "asks_in(ask)", "has_first(ask)"),
+    "namelooks": ("look_names(program)",),
+}
+
+METHODS = (
+    (LineReader, "__init__(self, line, text)"),
+    (LineReader, "look(self)"), (LineReader, "take(self)"), (LineReader, "expect(self, value)"),
+    (LineReader, "done(self)"), (LineReader, "bad(self)"), (LineReader, "take_name(self)"),
+    (LineReader, "take_number(self)"), (LineReader, "take_integer(self)"),
+    (LineReader, "take_letters(self)"), (LineReader, "take_word(self, width)"),
+)
+
+
+def told(thing):
+    return thing.__name__ + str(inspect.signature(thing))
+
+
+class Interface(Case):
+    def test_functions_stand_in_their_files(self):
+        for file, listed in FUNCTIONS.items():
+            module = importlib.import_module("chooseonce." + file)
+            for entry in listed:
+                function = getattr(module, entry.partition("(")[0])
+                self.assertEqual(told(function), entry)
+                self.assertEqual(function.__module__, "chooseonce." + file)
+
+    def test_methods_stand_in_their_classes(self):
+        for owner, entry in METHODS:
+            self.assertEqual(told(vars(owner)[entry.partition("(")[0]]), entry)
+
+    def test_classes_stand_in_their_files(self):
+        self.assertEqual(LineReader.__module__, "chooseonce.readers")
