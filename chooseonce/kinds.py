@@ -26,6 +26,15 @@ def mark_places(kinds):
     return _refs_to(kinds, ("sign", "none", "run"))
 
 
+def kinds_by_maker(ways):
+    """A dict with the kinds of each maker, by its first way, in their sequence."""
+    kinds = {}
+    for way in ways:
+        if way[0] not in kinds:
+            kinds[way[0]] = kinds_of(way)
+    return kinds
+
+
 def _kind_of(piece):
     if piece[0] == "lot":
         return "lot"

@@ -3,6 +3,7 @@
 import importlib
 import inspect
 
+from chooseonce.books import Book
 from chooseonce.readers import LineReader
 from tests.helping import Case
 
@@ -23,6 +24,39 @@ FUNCTIONS = {
     "kinds": ("kinds_of(way)", "part_places(kinds)", "sign_places(kinds)", "run_places(kinds)"),
     "askparts": ("judges_of(ask)", "asks_in(ask)", "has_first(ask)"),
     "namelooks": ("look_names(program)",),
+    "signlooks": ("look_signs(program)",),
+    "reflooks": ("look_mentions(program)", "look_makers(program)", "look_tests(program)"),
+    "formulalooks": ("look_formulas(program)", "look_asks(program)"),
+    "rowlooks": ("checked_rows(book, rows)",),
+    "stretches": (
+        "whole_of(lengths)", "widths_of(stretch)", "piece_stretches(stretch, cut)",
+        "texts_in(rows, stretch)",
+    ),
+    "dresses": (
+        "dress_of(rows, way, stretch, cut)", "holds(book, way, dress)", "plain_dress(book, kinds)",
+    ),
+    "formvalues": (
+        "form_value(book, kinds, form, dress, given)",
+        "number_value(book, kinds, formula, dress, given)",
+        "product_value(book, kinds, formula, dress, given)",
+        "text_value(book, kinds, formula, dress, given)",
+    ),
+    "nodevalues": (
+        "judge_value(book, judge, maker, dress, given)",
+        "node_value(book, ask, maker, dress, given, head)",
+    ),
+    "treevalues": (
+        "judged(book, judge, rows, candidate, stretch)",
+        "value(book, ask, rows, candidate, stretch)",
+    ),
+    "standing": (
+        "wrong_at(book, rows, candidate, lot, stretch)",
+        "stands(book, rows, candidate, lot, stretch)",
+    ),
+    "trees": (
+        "height_of(candidate)", "node_at(candidate, path)", "nodes_of(book, candidate, stretch)",
+        "replaced_at(candidate, path, other)",
+    ),
 }
 
 METHODS = (
@@ -31,6 +65,11 @@ METHODS = (
     (LineReader, "done(self)"), (LineReader, "bad(self)"), (LineReader, "take_name(self)"),
     (LineReader, "take_number(self)"), (LineReader, "take_integer(self)"),
     (LineReader, "take_letters(self)"), (LineReader, "take_word(self, width)"),
+    (Book, "__init__(self, program)"), (Book, "lots(self)"), (Book, "ways(self, lot)"),
+    (Book, "makers(self)"), (Book, "kinds(self, maker)"), (Book, "parts(self, maker)"),
+    (Book, "in_pairs(self, name, word)"), (Book, "number_for(self, name, word)"),
+    (Book, "judges(self)"), (Book, "sort_of(self, judge)"), (Book, "formula(self, judge, maker)"),
+    (Book, "asks(self)"), (Book, "ask(self, name)"),
 )
 
 
@@ -53,3 +92,4 @@ class Interface(Case):
 
     def test_classes_stand_in_their_files(self):
         self.assertEqual(LineReader.__module__, "chooseonce.readers")
+        self.assertEqual(Book.__module__, "chooseonce.books")

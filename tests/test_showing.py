@@ -6,6 +6,7 @@ from chooseonce.programs import read
 from chooseonce.showing import shown
 from chooseonce.shownparts import shown_ask, shown_formula, shown_ref, shown_way
 from chooseonce.wayreading import read_way
+from tests.bookdrawing import BookDraw
 from tests.drawing import Draw
 from tests.helping import FOLD, PAIR, Case
 
@@ -101,6 +102,9 @@ class Drawn(Case):
             text = shown(program)
             self.same(read(text), program)
             self.same(shown(read(text)), text)
+        for seed in range(100):
+            program = BookDraw(seed).program()
+            self.same(read(shown(program)), program)
 
     def test_parts_there_and_back(self):
         for seed in range(300):
