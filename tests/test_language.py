@@ -8,6 +8,7 @@ from tests.helping import Case
 
 FOLDER = os.path.dirname(chooseonce.__file__)
 FILES = sorted(name for name in os.listdir(FOLDER) if name != "__pycache__")
+LIBRARY = ("heapq", "math", "itertools", "collections", "__future__")
 
 
 def source(file):
@@ -16,11 +17,11 @@ def source(file):
 
 
 def imports(file):
-    """Pairs (module, name) of what the file imports."""
+    """Pairs (module, name) of what the file imports, but for the library."""
     return [
         (node.module, name.name)
         for node in ast.walk(ast.parse(source(file))) if isinstance(node, ast.ImportFrom)
-        for name in node.names
+        for name in node.names if node.module not in LIBRARY
     ]
 
 
@@ -72,7 +73,11 @@ class Language(Case):
             self.assertTrue(free, left)
             left = {file: left[file] - set(free) for file in left if file not in free}
 
-    def test_no_generator_expressions(self):
+    def test_no_generator_expressions_where_a_list_is_due(self):
+        # A class of the package has an __eq__, so L7 asks for lists here.
         for file in FILES:
             for node in ast.walk(ast.parse(source(file))):
-                self.assertNotIsInstance(node, ast.GeneratorExp, file)
+                if isinstance(node, ast.Call) and isinstance(node.func, ast.Name):
+                    if node.func.id in ("any", "all", "min", "max", "sum", "sorted"):
+                        for argument in node.args:
+                            self.assertNotIsInstance(argument, ast.GeneratorExp, file)
