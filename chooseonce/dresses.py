@@ -37,6 +37,11 @@ def plain_dress(book, kinds):
     return tuple([_plain_texts(book, kind) for kind in kinds])
 
 
+def letters_of(book, mark):
+    """The letters of a mark "sign"."""
+    return book.signs if mark[1] == "" else mark[1]
+
+
 def text_at(dress, ref):
     """The text of the dress at a ref."""
     piece, row = ref
@@ -51,8 +56,7 @@ def _fits(book, mark, text):
     """Whether the text may stand at the mark; widths of runs and of none are not looked at."""
     if mark[0] != "sign":
         return True
-    letters = book.signs if mark[1] == "" else mark[1]
-    return len(text) == 1 and text in letters
+    return len(text) == 1 and text in letters_of(book, mark)
 
 
 def _plain_texts(book, kind):

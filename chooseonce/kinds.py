@@ -11,6 +11,11 @@ def part_places(kinds):
     return tuple([place for place, kind in enumerate(kinds) if kind == "lot"])
 
 
+def part_lots(way):
+    """The lots of the parts of a way, in their sequence."""
+    return tuple([piece[1] for piece in way[1] if piece[0] == "lot"])
+
+
 def sign_places(kinds):
     """The refs to all marks "sign", by piece, then row."""
     return _refs_to(kinds, ("sign",))

@@ -1,5 +1,6 @@
 """Whether a tree is a candidate, and where it goes wrong."""
 
+from chooseonce.boxes import mark_box
 from chooseonce.dresses import dress_of, letters_hold, tests_hold
 from chooseonce.kinds import kinds_of, part_places
 from chooseonce.stretches import parts_due, widths_of
@@ -77,8 +78,5 @@ def _widths_fit(way, cut):
 
 
 def _lets(mark, width):
-    if mark[0] == "sign":
-        return width == 1
-    if mark[0] == "none":
-        return width == 0
-    return mark[1] <= width and (mark[2] is None or width <= mark[2])
+    least, most = mark_box(mark)
+    return least <= width and (most is None or width <= most)

@@ -89,6 +89,111 @@ ask then1 = ((least worth then total ways) beside names told)
 ask front = (least worth against greatest size)
 """
 
+# About made, live and useful ones: odd is not live, lost not made, spare not useful.
+EDGE = """signs ab
+rows 1
+pairs same aa bb
+start whole
+lot whole
+way cover(edge, core)
+lot edge
+way skip(none)
+way more(sign, edge)
+lot core
+way one(sign(a))
+way two(sign, sign(b)) when same 0 1
+way odd(sign, lost)
+lot lost
+way loop(lost)
+lot spare
+way last(sign)"""
+
+CIRCLE = "signs a\nrows 1\nstart s\nlot s\nway again(s)\nway stop(sign)"
+
+# About two rows, without a ring: pair is not empty, though it has least width 0 on each row.
+TWIN = """signs ab
+rows 2
+pairs same aa bb
+start all
+lot all
+way more(pair, all)
+way done(rest)
+lot pair
+way both(sign / sign) when same 0.0 0.1
+way up(sign(a) / none)
+way down(none / sign(b))
+way off(sign(a) / sign(b)) when same 0.0 0.1
+lot rest
+way some(run 0 2 / none)
+way skip(none / none, tail)
+lot tail
+way gap(none / run 1 any)
+lot apart
+way round(apart, pair)
+judge worth number
+for more x0 + x1
+for done x0
+for both 3
+for up 1
+for down 2
+for off 0
+for some len 0.0
+for skip x1 - 1
+for gap -1 * len 0.1
+for round x0
+judge ways product
+for more x0 * x1
+for done x0
+for both 2
+for up 1
+for down 1
+for off 1
+for some 1
+for skip x1
+for gap 1
+for round x0
+judge told text
+for more x0 x1
+for done "." x0
+for both at 0.0
+for up "-"
+for down "+"
+for off
+for some at 0.0
+for skip x1
+for gap at 0.1
+for round x0
+ask top = greatest worth
+ask both = ((greatest worth then total ways) beside names told)
+ask sorts = (each told (best 2 worth beside first))"""
+
+# About faults; its way g is not live.
+BEND = """signs ab
+rows 1
+pairs odd ab
+numbers two 1 else 0 a 2
+start s
+lot s
+way f(sign, s)
+way g(sign, s) when odd 0 0
+way e(none)
+judge j number
+for f max(0, x1)
+for g x1
+for e 0
+judge k number
+for f x1
+for g max(x1, 1 - x1)
+for e 1
+judge p product
+for f 1 + two[0] * x1
+for g x1
+for e 1
+judge t text
+for f at 0
+for g x1
+for e"""
+
 
 class Case(unittest.TestCase):
     """Compares kinds of values, too, and errors by their class and fields."""

@@ -5,6 +5,7 @@ import inspect
 
 from chooseonce.books import Book
 from chooseonce.readers import LineReader
+from chooseonce.shapes import Shape
 from tests.helping import Case
 
 FUNCTIONS = {
@@ -57,6 +58,18 @@ FUNCTIONS = {
         "height_of(candidate)", "node_at(candidate, path)", "nodes_of(book, candidate, stretch)",
         "replaced_at(candidate, path, other)",
     ),
+    "signing": ("signing_of(book, way)", "is_signed(book, way)"),
+    "making": ("made_lots(book)", "useful_lots(book)", "live_ways(book, lot)"),
+    "samples": ("sample(book, lot)", "used_sample(book, lot)"),
+    "comings": ("steps_of(book)", "comes_to(book, lot)", "long_lots(book, row)"),
+    "leastwidths": ("least_widths(book, row)", "empty_lots(book)"),
+    "greatestwidths": ("greatest_widths(book, row)",),
+    "chains": ("chains_of(book)", "ring_of(book)", "ranks_of(book)"),
+    "ringsamples": ("ring_shown(book, many)",),
+    "margins": ("margins_of(book, row)",),
+    "listing": ("candidates_of(shape, rows, lot, stretch)", "all_candidates(shape, rows)"),
+    "basicanswers": ("basic_answer(ask, bag)",),
+    "fronts": ("kept_pairs(ask, pairs)",),
 }
 
 METHODS = (
@@ -70,6 +83,9 @@ METHODS = (
     (Book, "in_pairs(self, name, word)"), (Book, "number_for(self, name, word)"),
     (Book, "judges(self)"), (Book, "sort_of(self, judge)"), (Book, "formula(self, judge, maker)"),
     (Book, "asks(self)"), (Book, "ask(self, name)"),
+    (Shape, "__init__(self, book)"), (Shape, "live(self, lot)"), (Shape, "place(self, lot)"),
+    (Shape, "rank(self, lot)"), (Shape, "is_empty(self, lot)"), (Shape, "widths(self, lot, row)"),
+    (Shape, "margin(self, lot, row)"), (Shape, "box(self, piece, row)"),
 )
 
 
@@ -93,3 +109,4 @@ class Interface(Case):
     def test_classes_stand_in_their_files(self):
         self.assertEqual(LineReader.__module__, "chooseonce.readers")
         self.assertEqual(Book.__module__, "chooseonce.books")
+        self.assertEqual(Shape.__module__, "chooseonce.shapes")

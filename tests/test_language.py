@@ -1,6 +1,7 @@
 """What of the rules for the code can be seen mechanically: L1, L2, L7, L10, L14 to L16."""
 
 import ast
+import builtins
 import os
 
 import chooseonce
@@ -72,6 +73,16 @@ class Language(Case):
             free = [file for file in left if not left[file]]
             self.assertTrue(free, left)
             left = {file: left[file] - set(free) for file in left if file not in free}
+
+    def test_no_name_has_two_meanings_and_all_imports_are_used(self):
+        for file in FILES:
+            names = [node for node in ast.walk(ast.parse(source(file))) if isinstance(node, ast.Name)]
+            stored = {node.id for node in names if isinstance(node.ctx, ast.Store)}
+            stored |= {node.arg for node in ast.walk(ast.parse(source(file))) if isinstance(node, ast.arg)}
+            told = {name for _, name in imports(file)}
+            self.assertFalse(stored & (told | set(dir(builtins))), file)
+            if file != "__init__.py":
+                self.assertLessEqual(told, {node.id for node in names if node.id not in stored}, file)
 
     def test_no_generator_expressions_where_a_list_is_due(self):
         # A class of the package has an __eq__, so L7 asks for lists here.

@@ -1,0 +1,97 @@
+"""All candidates of a lot over a stretch."""
+
+from chooseonce.choices import all_choices
+from chooseonce.dresses import dress_of
+from chooseonce.looks import holding_looks, spots_below
+from chooseonce.nodevalues import node_value
+from chooseonce.rowlooks import checked_rows
+from chooseonce.stretches import whole_of, widths_of
+
+
+def candidates_of(shape, rows, lot, stretch):
+    """All candidates of the lot over the stretch, in their order."""
+    return listed_values(shape, ("first",), rows, lot, stretch)
+
+
+def all_candidates(shape, rows):
+    """All candidates of the start lot over the whole, in their order."""
+    return whole_values(shape, ("first",), rows)
+
+
+def whole_values(shape, ask, rows):
+    """The values by the ask of all candidates of the start lot over the whole, in their order."""
+    lengths = checked_rows(shape.book, rows)
+    if shape.book.start not in shape.useful:
+        return ()
+    return listed_values(shape, ask, rows, shape.book.start, whole_of(lengths))
+
+
+def listed_values(shape, ask, rows, lot, stretch):
+    """The values by the ask of all candidates of the lot over the stretch, in their order."""
+    checked_rows(shape.book, rows)
+    spot = (lot, stretch)
+    looks = _filled_looks(shape, _looks_beneath(shape, rows, spot))
+    values = {}
+    for one in _used_spots(shape, spot, looks):
+        values[one] = _values_at(shape, ask, rows, one, looks[one], values)
+    return tuple(values[spot])
+
+
+def _looks_beneath(shape, rows, spot):
+    """A dict to its looks from the spot, and from all spots that parts have by looks."""
+    looks = {}
+    due = [spot]
+    while due:
+        one = due.pop()
+        if one not in looks:
+            looks[one] = holding_looks(shape, rows, one)
+            for look in looks[one]:
+                due.extend(spots_below(shape, one, look))
+    return looks
+
+
+def _filled_looks(shape, looks):
+    """The same with only those looks whose parts all have candidates.
+
+    Else candidates would be listed of which none stands in a candidate of the spot; there may be
+    far more of them than of those.
+    """
+    filled = {}
+    for spot in _in_order(shape, looks):
+        filled[spot] = []
+        for look in looks[spot]:
+            if all([filled[part] for part in spots_below(shape, spot, look)]):
+                filled[spot].append(look)
+    return filled
+
+
+def _used_spots(shape, spot, looks):
+    """A list of the spot and those that parts have by looks, each behind those of its own parts."""
+    used = {}
+    due = [spot]
+    while due:
+        one = due.pop()
+        if one not in used:
+            used[one] = True
+            for look in looks[one]:
+                due.extend(spots_below(shape, one, look))
+    return _in_order(shape, used)
+
+
+def _in_order(shape, spots):
+    """A list of spots in which each stands behind those that its parts have by any look."""
+    return sorted(spots, key=lambda spot: (sum(widths_of(spot[1])), shape.rank(spot[0])))
+
+
+def _values_at(shape, ask, rows, spot, looks, known):
+    """A list of the values of the candidates of a spot; known has those of its parts' spots."""
+    lot, stretch = spot
+    values = []
+    for number, cut in looks:
+        way = shape.book.ways(lot)[number]
+        dress = dress_of(rows, way, stretch, cut)
+        head = (lot, number, cut)
+        parts = [known[part] for part in spots_below(shape, spot, (number, cut))]
+        for given in all_choices(parts):
+            values.append(node_value(shape.book, ask, way[0], dress, given, head))
+    return values
