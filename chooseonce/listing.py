@@ -30,21 +30,26 @@ def listed_values(shape, ask, rows, lot, stretch):
     """The values by the ask of all candidates of the lot over the stretch, in their order."""
     checked_rows(shape.book, rows)
     spot = (lot, stretch)
-    looks = _filled_looks(shape, _looks_beneath(shape, rows, spot))
+    looks = _looks_beneath(shape, spot, lambda part: holding_looks(shape, rows, part))
+    filled = _filled_looks(shape, looks)
+    used = _looks_beneath(shape, spot, lambda part: filled[part])
     values = {}
-    for one in _used_spots(shape, spot, looks):
-        values[one] = _values_at(shape, ask, rows, one, looks[one], values)
+    for one in _in_order(shape, used):
+        values[one] = _values_at(shape, ask, rows, one, used[one], values)
     return tuple(values[spot])
 
 
-def _looks_beneath(shape, rows, spot):
-    """A dict to its looks from the spot, and from all spots that parts have by looks."""
+def _looks_beneath(shape, spot, looks_at):
+    """A dict to its looks from the spot, and from all spots that parts have by looks.
+
+    looks_at tells the looks of a spot.
+    """
     looks = {}
     due = [spot]
     while due:
         one = due.pop()
         if one not in looks:
-            looks[one] = holding_looks(shape, rows, one)
+            looks[one] = looks_at(one)
             for look in looks[one]:
                 due.extend(spots_below(shape, one, look))
     return looks
@@ -63,19 +68,6 @@ def _filled_looks(shape, looks):
             if all([filled[part] for part in spots_below(shape, spot, look)]):
                 filled[spot].append(look)
     return filled
-
-
-def _used_spots(shape, spot, looks):
-    """A list of the spot and those that parts have by looks, each behind those of its own parts."""
-    used = {}
-    due = [spot]
-    while due:
-        one = due.pop()
-        if one not in used:
-            used[one] = True
-            for look in looks[one]:
-                due.extend(spots_below(shape, one, look))
-    return _in_order(shape, used)
 
 
 def _in_order(shape, spots):

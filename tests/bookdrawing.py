@@ -33,10 +33,13 @@ class BookDraw(Draw):
         mark = lambda: self.one(("sign", "none", "run"))
         return self.one(("lot", tuple(mark() for _ in range(self.rows))))
 
-    def program(self):
+    def ways(self):
         # The last way lets each lot have candidates over all stretches.
         last = ("e", (("plain", (("run", 0, None),) * self.rows),), ())
-        lots = tuple((lot, self.many(1, 3, self.way) + (last,)) for lot in self.lots)
+        return self.many(1, 3, self.way) + (last,)
+
+    def program(self):
+        lots = tuple((lot, self.ways()) for lot in self.lots)
         makers = dict.fromkeys(way[0] for _, ways in lots for way in ways)
         judges = tuple(
             (name, sort, tuple((maker, self.formula_for(sort, maker)) for maker in makers))

@@ -26,16 +26,6 @@ class ShapeDraw(BookDraw):
     def end(self, maker):
         return (maker, tuple(self.piece_of(kind) for kind in self.kinds[maker]), ())
 
-    def program(self):
-        lots = tuple((lot, self.ways()) for lot in self.lots)
-        makers = dict.fromkeys(way[0] for _, ways in lots for way in ways)
-        judges = tuple(
-            (name, sort, tuple((maker, self.formula_for(sort, maker)) for maker in makers))
-            for name, sort in (("j", "number"), ("k", "number"), ("o", "product"), ("z", "text"))
-        )
-        return ("program", self.signs, self.rows, self.pairs, self.numbers_told, "s", lots, judges,
-                tuple((f"a{at}", ask) for at, ask in enumerate(self.asks())))
-
     def drawn_rows(self):
         """Some rows, short ones more often."""
         most = 4 if self.rows == 1 else 2

@@ -70,6 +70,21 @@ FUNCTIONS = {
     "listing": ("candidates_of(shape, rows, lot, stretch)", "all_candidates(shape, rows)"),
     "basicanswers": ("basic_answer(ask, bag)",),
     "fronts": ("kept_pairs(ask, pairs)",),
+    "answers": ("answer_to(ask, bag)",),
+    "bags": ("bag_of(shape, ask, rows, lot, stretch)", "once(shape, ask, rows)"),
+    "shorts": ("short_of(ask, answer)",),
+    "gathering": ("plus_of(ask, one, other)", "gathered(ask, answers)"),
+    "makes": ("make_of(book, ask, maker, dress, answers, head)",),
+    "slopes": (
+        "slope_of(form, place)", "low_of(formula, place)", "high_of(formula, place)",
+        "bends(formula, place)",
+    ),
+    "collecting": ("collected(book, kinds, formula, dress)", "dresses_of(book, kinds, refs)"),
+    "faults": ("fault_at(book, ask, maker, place)",),
+    "blinds": ("is_blind(book, ask, maker, place)",),
+    "borders": ("border_of(book, ask)", "passes(book, ask)", "used_border(shape, ask)"),
+    "flanks": ("flank_of(book, kinds, formula, place, dress, side)",),
+    "shownwrong": ("shown_wrong(book, ask)", "is_kin(book, other, ask)"),
 }
 
 METHODS = (

@@ -5,6 +5,8 @@ from itertools import product
 from chooseonce.books import Book
 from chooseonce.making import live_ways, made_lots, useful_lots
 from chooseonce.programs import read
+from chooseonce.samples import sample
+from chooseonce.standing import stands
 from tests import shapereckoning
 from tests.helping import EDGE, FOLD, TWIN, Case
 from tests.listing import candidates
@@ -78,6 +80,23 @@ class Making(Case):
                       tuple(tuple(live[lot]) for lot in book.lots()))
             told.add((len(useful), len(book.lots())))
         self.assertLessEqual({(0, 1), (0, 3), (1, 4), (2, 3), (4, 4)}, told)
+
+    def test_each_live_way_has_a_candidate(self):
+        looked = 0
+        for _, book in drawn_books(range(80)):
+            program = book.program
+            for lot in book.lots():
+                for number, way in enumerate(book.ways(lot)):
+                    # alone is made exactly if this way is live.
+                    more = Book(program[:6] + (program[6] + (("alone", (way,)),),) + program[7:])
+                    self.same("alone" in made_lots(more), number in live_ways(book, lot))
+                    if number in live_ways(book, lot):
+                        rows, tree = sample(more, "alone")
+                        whole = tuple((0, len(row)) for row in rows)
+                        self.same(stands(more, rows, tree, "alone", whole), True)
+                        self.same(stands(more, rows, (lot, number) + tree[2:], lot, whole), True)
+                        looked += 1
+        self.assertGreater(looked, 100)
 
     def test_what_is_not_made_or_live_has_no_candidates(self):
         looked = 0
