@@ -2,10 +2,11 @@
 
 from chooseonce.choices import all_choices
 from chooseonce.dresses import dress_of
-from chooseonce.looks import holding_looks, spots_below
+from chooseonce.looks import Looks
 from chooseonce.nodevalues import node_value
 from chooseonce.rowlooks import checked_rows
-from chooseonce.stretches import whole_of, widths_of
+from chooseonce.spots import part_spots, wave_key
+from chooseonce.stretches import whole_of
 
 
 def candidates_of(shape, rows, lot, stretch):
@@ -30,7 +31,8 @@ def listed_values(shape, ask, rows, lot, stretch):
     """The values by the ask of all candidates of the lot over the stretch, in their order."""
     checked_rows(shape.book, rows)
     spot = (lot, stretch)
-    looks = _looks_beneath(shape, spot, lambda part: holding_looks(shape, rows, part))
+    by_widths = Looks(shape)
+    looks = _looks_beneath(shape, spot, lambda part: by_widths.holding(rows, part))
     filled = _filled_looks(shape, looks)
     used = _looks_beneath(shape, spot, lambda part: filled[part])
     values = {}
@@ -50,8 +52,8 @@ def _looks_beneath(shape, spot, looks_at):
         one = due.pop()
         if one not in looks:
             looks[one] = looks_at(one)
-            for look in looks[one]:
-                due.extend(spots_below(shape, one, look))
+            for number, cut in looks[one]:
+                due.extend(part_spots(shape, one, number, cut))
     return looks
 
 
@@ -64,15 +66,15 @@ def _filled_looks(shape, looks):
     filled = {}
     for spot in _in_order(shape, looks):
         filled[spot] = []
-        for look in looks[spot]:
-            if all([filled[part] for part in spots_below(shape, spot, look)]):
-                filled[spot].append(look)
+        for number, cut in looks[spot]:
+            if all([filled[part] for part in part_spots(shape, spot, number, cut)]):
+                filled[spot].append((number, cut))
     return filled
 
 
 def _in_order(shape, spots):
     """A list of spots in which each stands behind those that its parts have by any look."""
-    return sorted(spots, key=lambda spot: (sum(widths_of(spot[1])), shape.rank(spot[0])))
+    return sorted(spots, key=lambda spot: wave_key(shape, spot))
 
 
 def _values_at(shape, ask, rows, spot, looks, known):
@@ -83,7 +85,7 @@ def _values_at(shape, ask, rows, spot, looks, known):
         way = shape.book.ways(lot)[number]
         dress = dress_of(rows, way, stretch, cut)
         head = (lot, number, cut)
-        parts = [known[part] for part in spots_below(shape, spot, (number, cut))]
+        parts = [known[part] for part in part_spots(shape, spot, number, cut)]
         for given in all_choices(parts):
             values.append(node_value(shape.book, ask, way[0], dress, given, head))
     return values

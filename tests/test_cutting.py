@@ -1,9 +1,9 @@
-"""[9]: the cuts of a stretch by a way, as candidates_of looks at them."""
+"""[70], [71]: the cuts of a width, and of a stretch by a way."""
 
 from itertools import product
 
 from chooseonce.books import Book
-from chooseonce.cutting import cuts_in, cuts_of
+from chooseonce.cutting import cuts_in, cuts_of, many_cuts
 from chooseonce.programs import read
 from chooseonce.shapes import Shape
 from tests.helping import FOLD, TWIN, Case
@@ -24,6 +24,19 @@ class Cuts(Case):
                     wanted = tuple(cut for cut in divided(width, many)
                                    if all(lies_in(*pair) for pair in zip(cut, boxes)))
                     self.same(cuts_in(boxes[:many], width), wanted)
+                    self.same(many_cuts(boxes[:many], width), len(wanted))
+
+    def test_edges(self):
+        self.same(many_cuts(((0, None),) * 4, 80), 91881)
+        self.same(len(cuts_in(((0, None),) * 4, 20)), many_cuts(((0, None),) * 4, 20))
+        self.same(cuts_in(((2, 2), (3, 3)), 5), ((2, 3),))
+        self.same(cuts_in(((2, 2), (3, 3)), 6), ())
+        self.same(cuts_in(((2, None), (3, 4)), 4), ())
+        self.same(many_cuts(((2, None), (3, 4)), 4), 0)
+        self.same(many_cuts(((0, 2), (0, 1)), 4), 0)
+        self.same((many_cuts(((3, 9),), 2), many_cuts(((3, 9),), 9), many_cuts(((3, 9),), 10)), (0, 1, 0))
+        # There are far more of them than could be listed.
+        self.same(many_cuts(((0, 80), (0, None), (1, None), (0, None), (0, None)), 80), 1837620)
 
     def test_ways(self):
         shape = Shape(Book(read(FOLD)))
@@ -34,6 +47,9 @@ class Cuts(Case):
         self.same(cuts_of(shape, "all", 0, ((0, 1), (3, 4))), (
             ((0, 1), (1, 0)), ((1, 0), (0, 1)), ((1, 0), (1, 0))))
         self.same(cuts_of(shape, "all", 0, ((2, 2), (0, 0))), ())
+        # The stretch may be that of no spot; its widths alone tell.
+        self.same(cuts_of(shape, "all", 0, ((90, 91), (-3, -2))), cuts_of(shape, "all", 0, ((0, 1), (0, 1))))
+        self.same(cuts_of(shape, "rest", 0, ((0, 3), (0, 0))), ())
 
     def test_drawn_ways(self):
         for _, book in ringless(range(60)):

@@ -85,6 +85,37 @@ FUNCTIONS = {
     "borders": ("border_of(book, ask)", "passes(book, ask)", "used_border(shape, ask)"),
     "flanks": ("flank_of(book, kinds, formula, place, dress, side)",),
     "shownwrong": ("shown_wrong(book, ask)", "is_kin(book, other, ask)"),
+    "mending": ("mended(book, ask)", "last_step(book, ask, answer)"),
+    "cutting": (
+        "cuts_in(boxes, width)", "many_cuts(boxes, width)", "cuts_of(shape, lot, way, stretch)",
+    ),
+    "spots": (
+        "is_spot(shape, lengths, spot)", "spots_of(shape, lengths)", "whole_spot(shape, lengths)",
+        "part_spots(shape, spot, way, cut)",
+    ),
+    "prices": ("many_spots(shape, lengths, lot, widths)", "work_of(shape, plan, lot, widths)"),
+    "planning": (
+        "all_kept(shape)", "price_of(shape, lengths, plan)", "room_of(shape, lengths, plan)",
+        "plan_for(shape, lengths, most)",
+    ),
+    "needing": (
+        "needs_of(shape, lengths, plan, spot)", "order_fits(shape, lengths, plan, order)",
+        "waves_of(shape, lengths)",
+    ),
+    "runs": ("run_plan(shape, ask, rows, plan, order)", "resumed(shape, ask, rows, plan, known)"),
+    "tables": (
+        "early_table(shape, ask, rows)", "early(shape, ask, rows)", "entry_of(shape, table, spot)",
+    ),
+    "answering": (
+        "answer(shape, ask, rows)", "strictly(shape, ask, rows)", "asked(shape, name, rows)",
+    ),
+    "expressions": (
+        "told_by(expression, settings)", "added(one, other)", "taken_off(one, other)",
+    ),
+    "codes": ("code_of(shape)",),
+    "events": (
+        "events_of(shape, lengths, code)", "turns_of(lengths, code)", "idle_loops(lengths, code)",
+    ),
 }
 
 METHODS = (

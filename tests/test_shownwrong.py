@@ -9,10 +9,12 @@ from chooseonce.programs import read
 from chooseonce.shapes import Shape
 from chooseonce.showing import shown
 from chooseonce.shownwrong import is_kin, shown_wrong
+from chooseonce.tables import early
 from tests.askdrawing import AskDraw
 from tests.bookdrawing import BookDraw
 from tests.helping import BEND, FOLD, PAIR, Case
-from tests.reckoning import answer, early, whole_bag
+from tests.reckoning import answer, whole_bag
+from tests.reckoning import early as early_by_rules
 from tests.shapedrawing import ShapeDraw
 
 BENDS = Book(read(BEND))
@@ -74,7 +76,8 @@ class Wrong(Case):
         self.same(passes(other, ask), False)
         wanted = once(Shape(other), ask, rows)
         self.same(wanted, answer(ask, whole_bag(program, ask, rows)))
-        got = early(other, ask, rows)
+        got = early(Shape(other), ask, rows)
+        self.same(got, early_by_rules(other, ask, rows))
         self.assertIsNotNone(got)
         self.assertNotEqual(wanted, got)
         return border
@@ -107,7 +110,8 @@ class Wrong(Case):
     def test_as_the_document_prints_it(self):
         ask = ("within", 0, "j")
         program, rows = shown_wrong(BENDS, ask)
-        self.assertNotEqual(once(Shape(Book(program)), ask, rows), early(Book(program), ask, rows))
+        shape = Shape(Book(program))
+        self.assertNotEqual(once(shape, ask, rows), early(shape, ask, rows))
         self.same((is_kin(BENDS, Book(program), ask), is_kin(Book(program), BENDS, ask)), (True, False))
         self.look(BENDS, ask)
 
