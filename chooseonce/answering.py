@@ -9,6 +9,7 @@ from chooseonce.tables import early
 
 def answer(shape, ask, rows):
     """Once: the last step from what early choosing tells by the mended ask."""
+    checked_rows(shape.book, rows)
     return last_step(shape.book, ask, early(shape, mended(shape.book, ask), rows))
 
 

@@ -23,7 +23,7 @@ def _code_of_lot(shape, lot):
     body = (("new", lot),)
     for way in shape.live(lot):
         body = body + (loops_over_cuts(shape, lot, way),)
-    for row in range(shape.book.rows)[::-1]:
+    for row in reversed(range(shape.book.rows)):
         lows, highs = _from_bounds(shape, lot, row)
         body = (("for", f"i{row}", lows, highs, body),)
     loops = _loops_over_widths(shape, lot, body)

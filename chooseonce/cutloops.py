@@ -15,8 +15,8 @@ def loops_over_cuts(shape, lot, way):
     """The statement that looks at all cuts of the stretch by the way, in sequence."""
     pieces = shape.book.ways(lot)[way][1]
     statement = ("look", lot, way)
-    for row in range(shape.book.rows)[::-1]:
-        for piece in range(len(pieces))[::-1]:
+    for row in reversed(range(shape.book.rows)):
+        for piece in reversed(range(len(pieces))):
             lows = tuple(_lows_of(shape, pieces, row, piece))
             highs = tuple(_highs_of(shape, pieces, row, piece))
             statement = ("for", end_name(row, piece), lows, highs, (statement,))

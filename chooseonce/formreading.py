@@ -1,6 +1,6 @@
 """Reading the formulas of judges."""
 
-from chooseonce.readers import LineReader, has_mark, word_in_hand
+from chooseonce.readers import LineReader, has_mark, sum_from, word_in_hand
 from chooseonce.wayreading import ref_from
 from chooseonce.words import is_part
 
@@ -15,7 +15,7 @@ def formula_from(reader, sort, rows):
     if sort == "number":
         formula = _number_formula(reader, rows)
     elif sort == "product":
-        formula = _sum_from(reader, rows, _term_from)
+        formula = sum_from(reader, lambda sign: _term_from(reader, rows, sign))
     else:
         formula = _text_formula(reader, rows)
     reader.done()
@@ -25,30 +25,21 @@ def formula_from(reader, sort, rows):
 def _number_formula(reader, rows):
     how = word_in_hand(reader)
     if how not in ("min", "max"):
-        return ("one", (_sum_from(reader, rows, _item_from),))
+        return ("one", (_form_from(reader, rows),))
     reader.take()
     reader.expect("(")
-    forms = [_sum_from(reader, rows, _item_from)]
+    forms = [_form_from(reader, rows)]
     reader.expect(",")
-    forms.append(_sum_from(reader, rows, _item_from))
+    forms.append(_form_from(reader, rows))
     if has_mark(reader, ","):
         reader.take()
-        forms.append(_sum_from(reader, rows, _item_from))
+        forms.append(_form_from(reader, rows))
     reader.expect(")")
     return (how, tuple(forms))
 
 
-def _sum_from(reader, rows, one_from):
-    """Takes what one_from takes, once or more, parted by plus and minus."""
-    sign = 1
-    if has_mark(reader, "-"):
-        reader.take()
-        sign = -1
-    found = [one_from(reader, rows, sign)]
-    while has_mark(reader, "+") or has_mark(reader, "-"):
-        sign = 1 if reader.take() == "+" else -1
-        found.append(one_from(reader, rows, sign))
-    return tuple(found)
+def _form_from(reader, rows):
+    return sum_from(reader, lambda sign: _item_from(reader, rows, sign))
 
 
 def _item_from(reader, rows, sign):

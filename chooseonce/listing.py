@@ -1,7 +1,6 @@
 """All candidates of a lot over a stretch."""
 
 from chooseonce.choices import all_choices
-from chooseonce.dresses import dress_of
 from chooseonce.looks import Looks
 from chooseonce.nodevalues import node_value
 from chooseonce.rowlooks import checked_rows
@@ -37,7 +36,7 @@ def listed_values(shape, ask, rows, lot, stretch):
     used = _looks_beneath(shape, spot, lambda part: filled[part])
     values = {}
     for one in _in_order(shape, used):
-        values[one] = _values_at(shape, ask, rows, one, used[one], values)
+        values[one] = _values_at(shape, ask, one, used[one], values)
     return tuple(values[spot])
 
 
@@ -52,7 +51,7 @@ def _looks_beneath(shape, spot, looks_at):
         one = due.pop()
         if one not in looks:
             looks[one] = looks_at(one)
-            for number, cut in looks[one]:
+            for number, cut, _ in looks[one]:
                 due.extend(part_spots(shape, one, number, cut))
     return looks
 
@@ -66,9 +65,9 @@ def _filled_looks(shape, looks):
     filled = {}
     for spot in _in_order(shape, looks):
         filled[spot] = []
-        for number, cut in looks[spot]:
+        for number, cut, dress in looks[spot]:
             if all([filled[part] for part in part_spots(shape, spot, number, cut)]):
-                filled[spot].append((number, cut))
+                filled[spot].append((number, cut, dress))
     return filled
 
 
@@ -77,15 +76,13 @@ def _in_order(shape, spots):
     return sorted(spots, key=lambda spot: wave_key(shape, spot))
 
 
-def _values_at(shape, ask, rows, spot, looks, known):
+def _values_at(shape, ask, spot, looks, known):
     """A list of the values of the candidates of a spot; known has those of its parts' spots."""
-    lot, stretch = spot
+    lot = spot[0]
     values = []
-    for number, cut in looks:
-        way = shape.book.ways(lot)[number]
-        dress = dress_of(rows, way, stretch, cut)
-        head = (lot, number, cut)
+    for number, cut, dress in looks:
+        maker = shape.book.ways(lot)[number][0]
         parts = [known[part] for part in part_spots(shape, spot, number, cut)]
         for given in all_choices(parts):
-            values.append(node_value(shape.book, ask, way[0], dress, given, head))
+            values.append(node_value(shape.book, ask, maker, dress, given, (lot, number, cut)))
     return values

@@ -13,7 +13,7 @@ class Looks:
         self._by_widths = {}
 
     def every(self, spot):
-        """A list of all pairs (way, cut) of a spot, in sequence."""
+        """A dict from all pairs (way, cut) of a spot, in sequence, to True."""
         lot, stretch = spot
         key = (lot, widths_of(stretch))
         if key not in self._by_widths:
@@ -22,19 +22,18 @@ class Looks:
         return self._by_widths[key]
 
     def holding(self, rows, spot):
-        """A list of those for which letters and tests hold."""
-        return [look for look in self.every(spot) if self._holds_by(rows, spot, look)]
-
-    def way(self, spot, look):
-        """The way by which a look looks at a spot."""
-        return self.shape.book.ways(spot[0])[look[0]]
-
-    def _holds_by(self, rows, spot, look):
-        way = self.way(spot, look)
-        return holds(self.shape.book, way, dress_of(rows, way, spot[1], look[1]))
+        """A list of triples (way, cut, dress), those for which letters and tests hold."""
+        found = []
+        for number, cut in self.every(spot):
+            way = self.shape.book.ways(spot[0])[number]
+            dress = dress_of(rows, way, spot[1], cut)
+            if holds(self.shape.book, way, dress):
+                found.append((number, cut, dress))
+        return found
 
     def _found(self, lot, stretch):
-        looks = []
+        looks = {}
         for number in self.shape.live(lot):
-            looks.extend([(number, cut) for cut in cuts_of(self.shape, lot, number, stretch)])
+            for cut in cuts_of(self.shape, lot, number, stretch):
+                looks[(number, cut)] = True
         return looks

@@ -27,6 +27,13 @@ def check_price(shape, lengths, plan):
         raise TooLong(price)
 
 
+def price_left(shape, lengths, plan, known):
+    """What is left of the price if some kept spots, a list, are known and not worked out."""
+    works = works_by(shape, plan, counted_ways(shape, plan, lengths), lengths)
+    saved = [works[(lot, widths_of(stretch))] for lot, stretch in known]
+    return price_of(shape, lengths, plan) - sum(saved)
+
+
 def room_of(shape, lengths, plan):
     """How many kept spots a run by the plan has."""
     check_plan(shape, plan)

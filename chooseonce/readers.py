@@ -88,3 +88,19 @@ def word_in_hand(reader):
 def has_mark(reader, mark):
     """Whether this mark is in hand."""
     return reader.look() == ("mark", mark)
+
+
+def sum_from(reader, take_one):
+    """Takes items, at least one, parted by plus and minus; the first may have a minus in front.
+
+    take_one takes an item from the reader, and is told 1 or -1, its sign.
+    """
+    sign = 1
+    if has_mark(reader, "-"):
+        reader.take()
+        sign = -1
+    found = [take_one(sign)]
+    while has_mark(reader, "+") or has_mark(reader, "-"):
+        sign = 1 if reader.take() == "+" else -1
+        found.append(take_one(sign))
+    return tuple(found)

@@ -16,7 +16,7 @@ def shown_formula(sort, rows, formula):
     if sort == "number":
         return _shown_number(rows, formula)
     if sort == "product":
-        return _shown_sum([(k, _shown_factors(rows, nums, parts)) for k, nums, parts in formula])
+        return shown_sum([(k, _shown_factors(rows, nums, parts)) for k, nums, parts in formula])
     return " ".join([_shown_text_item(rows, item) for item in formula])
 
 
@@ -34,6 +34,18 @@ def shown_ref(rows, ref):
     """The text of a ref; on one row its row is not shown."""
     piece, row = ref
     return str(piece) if rows == 1 else f"{piece}.{row}"
+
+
+def shown_sum(items):
+    """The text of pairs of an integer and a rest, "" for none, one behind the other."""
+    text = ""
+    for k, rest in items:
+        if text == "":
+            text = "-" if k < 0 else ""
+        else:
+            text = text + (" - " if k < 0 else " + ")
+        text = text + _shown_times(abs(k), rest)
+    return text
 
 
 def _shown_piece(piece):
@@ -58,23 +70,11 @@ def _shown_test(rows, test):
 
 def _shown_number(rows, formula):
     how, forms = formula
-    shown = [_shown_sum([(k, _shown_atom(rows, atom)) for k, atom in form]) for form in forms]
+    shown = [shown_sum([(k, _shown_atom(rows, atom)) for k, atom in form]) for form in forms]
     if how == "one":
         return shown[0]
     inside = ", ".join(shown)
     return f"{how}({inside})"
-
-
-def _shown_sum(items):
-    """The text of pairs of an integer and a rest, "" for none, one behind the other."""
-    text = ""
-    for k, rest in items:
-        if text == "":
-            text = "-" if k < 0 else ""
-        else:
-            text = text + (" - " if k < 0 else " + ")
-        text = text + _shown_times(abs(k), rest)
-    return text
 
 
 def _shown_times(k, rest):

@@ -34,7 +34,7 @@ class Run:
             for part in part_spots(self.shape, spot, look[0], look[1]):
                 kept = part[0] in self.plan
                 answers.append(self.entries[part] if kept else self.work_out(part))
-            made.append(made_by_look(self._found, self.ask, self.rows, spot, look, answers))
+            made.append(made_by_look(self.shape.book, self.ask, self.rows, spot, look, answers))
         return gathered(self.ask, made)
 
     def whole(self, lengths):
@@ -45,13 +45,12 @@ class Run:
         return self.entries[spot] if spot[0] in self.plan else self.work_out(spot)
 
 
-def made_by_look(looks, ask, rows, spot, look, answers):
+def made_by_look(book, ask, rows, spot, look, answers):
     """Make of a look from an answer for each part; None if letters and tests do not hold."""
     if None in answers:
         return None
     number, cut = look
-    book = looks.shape.book
-    way = looks.way(spot, look)
+    way = book.ways(spot[0])[number]
     dress = dress_of(rows, way, spot[1], cut)
     if not holds(book, way, dress):
         return None

@@ -194,6 +194,17 @@ for f at 0
 for g x1
 for e"""
 
+# A code that fits FOLD for lengths 0 and 1.
+LOOPS = """for v0 from 0 to 1
+  for i0 from 0 to n0 - v0
+    new fold
+    if 1 - v0
+      for e0.0 from i0 to i0
+        look fold 0
+    for e0.0 from 1 + i0 to i0 + v0
+      for e0.1 from i0 + v0 to i0 + v0
+        look fold 1"""
+
 
 class Case(unittest.TestCase):
     """Compares kinds of values, too, and errors by their class and fields."""

@@ -7,24 +7,8 @@ from tests.helping import EDGE, FOLD, TWIN, Case
 from tests.runreckoning import Reckoned
 from tests.shapedrawing import drawn_books, ringless
 from tests.shapereckoning import made, ranks
-from tests.test_prices import DOUBLE, shape_of
+from tests.test_prices import DOUBLE, THREE, shape_of
 from tests.test_spots import UNMADE
-
-# Three parts that are not empty, of which each may have no width on one row, beside marks.
-THREE = """signs ab
-rows 2
-start s
-lot s
-way f(t, run 0 any / run 1 2, t, u, t)
-way g(t, t, t)
-way h(run 0 1 / none, t, t, sign / none)
-lot t
-way up(sign / none)
-way down(none / run 1 any)
-lot u
-way e(none / none)
-way d(none / sign)"""
-
 
 def events_due(reckoned):
     """All spots begun, in their order, and all their looks, in sequence, directly behind each."""

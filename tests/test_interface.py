@@ -3,7 +3,9 @@
 import importlib
 import inspect
 
+from chooseonce.benches import Bench
 from chooseonce.books import Book
+from chooseonce.numbers import Numbers
 from chooseonce.readers import LineReader
 from chooseonce.shapes import Shape
 from tests.helping import Case
@@ -116,6 +118,23 @@ FUNCTIONS = {
     "events": (
         "events_of(shape, lengths, code)", "turns_of(lengths, code)", "idle_loops(lengths, code)",
     ),
+    "codechecks": ("code_fits(shape, lengths, code)",),
+    "coderuns": ("run_code(shape, ask, rows, code)",),
+    "codetexts": ("shown_code(code)", "read_code(text)"),
+    "tablechecks": ("table_fits(shape, ask, rows, table)",),
+    "boxbounds": (
+        "form_bounds(book, kinds, form, dress, pairs)",
+        "formula_bounds(book, kinds, formula, dress, pairs)",
+    ),
+    "boundtables": ("bounds_of(shape, judge, rows)",),
+    "boundchecks": ("bounds_fit(shape, judge, rows, bounds)",),
+    "papers": ("best_paper(shape, ask, rows)", "paper_fits(shape, ask, rows, paper)"),
+    "edits": ("edited(book, rows, edit)", "undoing(rows, edit)", "old_stretch(stretch, edit)"),
+    "carrying": ("carried(shape, rows, edit, table)",),
+    "shelf": (
+        "distance(signs, one, other, gap, change)", "longest(signs, one, other)",
+        "nested(signs, words, text)",
+    ),
 }
 
 METHODS = (
@@ -132,6 +151,13 @@ METHODS = (
     (Shape, "__init__(self, book)"), (Shape, "live(self, lot)"), (Shape, "place(self, lot)"),
     (Shape, "rank(self, lot)"), (Shape, "is_empty(self, lot)"), (Shape, "widths(self, lot, row)"),
     (Shape, "margin(self, lot, row)"), (Shape, "box(self, piece, row)"),
+    (Numbers, "__init__(self, shape, rows)"), (Numbers, "many(self)"),
+    (Numbers, "many_at(self, spot)"), (Numbers, "nth(self, number)"),
+    (Numbers, "number_of(self, candidate)"),
+    (Bench, "__init__(self, program)"), (Bench, "lay(self, rows)"), (Bench, "edit(self, edit)"),
+    (Bench, "undo(self)"), (Bench, "rows_now(self)"), (Bench, "plan_by(self, name, plan)"),
+    (Bench, "answer(self, name)"), (Bench, "due(self, name)"), (Bench, "made(self, name)"),
+    (Bench, "looked(self, name)"), (Bench, "many(self)"), (Bench, "nth(self, number)"),
 )
 
 
@@ -156,3 +182,5 @@ class Interface(Case):
         self.assertEqual(LineReader.__module__, "chooseonce.readers")
         self.assertEqual(Book.__module__, "chooseonce.books")
         self.assertEqual(Shape.__module__, "chooseonce.shapes")
+        self.assertEqual(Numbers.__module__, "chooseonce.numbers")
+        self.assertEqual(Bench.__module__, "chooseonce.benches")

@@ -111,6 +111,7 @@ class Steps(Case):
         self.steps(("ends", 4, "k"), pairs, (0, 1, 1, 1, 1, 1, 4, 4))
         self.steps(("ends", 3, "k"), ((0, 1), (1, 5)), (0, 1, 1, 1, 1, 1))
         self.steps(("ends", 1, "k"), ((2, 1),), (2,))
+        self.steps(("ends", 3, "k"), ((2, 9),), (2, 2, 2, 2, 2, 2))
         self.steps(("within", 1, "k"), pairs, (0, 1, 1, 1, 1, 1))
         self.steps(("within", 0, "j"), pairs, (0,))
         self.steps(("within", 9, "j"), ((2, 2), (11, 1), (12, 1)), (2, 2, 11))

@@ -9,6 +9,24 @@ from tests.helping import EDGE, FOLD, TWIN, Case
 from tests.runreckoning import Reckoned, small_lengths
 from tests.shapedrawing import ringless
 
+# Three parts that are not empty, of which each may have no width on one row, beside marks.
+THREE = """signs ab
+rows 2
+start s
+lot s
+way f(t, run 0 any / run 1 2, t, u, t)
+way g(t, t, v)
+way h(run 0 1 / none, t, t, sign / none)
+lot t
+way up(sign / none)
+way down(none / run 1 any)
+lot u
+way e(none / none)
+way d(none / sign)
+lot v
+way p(none / sign)
+way q(sign / sign)"""
+
 # Both parts of two may have the same spot, without width.
 DOUBLE = """signs a
 rows 1
@@ -79,6 +97,18 @@ class Prices(Case):
                     for spot in reckoned.spots()[-9:]:
                         widths = tuple(end - start for start, end in spot[1])
                         self.same(work_of(shape, plan, spot[0], widths), reckoned.work(plan, spot))
+
+    def test_parts_that_are_not_empty(self):
+        # Some lots have least width 0 on each row, or on one alone, and are not empty.
+        for text in (TWIN, THREE):
+            book = Book(read(text))
+            for lengths in ((0, 2), (2, 0), (1, 1), (2, 2)):
+                reckoned = Reckoned(book.program, lengths)
+                self.spots_counted(Shape(book), lengths, reckoned)
+                for plan in reckoned.plans():
+                    for spot in reckoned.spots():
+                        widths = tuple(end - start for start, end in spot[1])
+                        self.same(work_of(Shape(book), plan, spot[0], widths), reckoned.work(plan, spot))
 
     def spots_counted(self, shape, lengths, reckoned):
         spots = [(lot, tuple(end - start for start, end in stretch)) for lot, stretch in reckoned.spots()]

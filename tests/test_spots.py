@@ -4,9 +4,12 @@ from itertools import product
 
 from chooseonce.books import Book
 from chooseonce.cutting import cuts_of
+from chooseonce.listing import all_candidates
 from chooseonce.programs import read
 from chooseonce.shapes import Shape
 from chooseonce.spots import is_spot, part_spots, spots_of, whole_spot
+from chooseonce.stretches import whole_of
+from chooseonce.trees import nodes_of
 from tests.helping import EDGE, FOLD, TWIN, Case
 from tests.runreckoning import Reckoned, small_lengths
 from tests.shapedrawing import drawn_books, ringless
@@ -96,6 +99,18 @@ class Spots(Case):
                 for part in parts:
                     self.assertTrue(is_spot(shape, lengths, part))
                     self.assertLess(reckoned.wave(part), reckoned.wave(spot))
+
+    def test_all_nodes_of_candidates_stand_at_spots(self):
+        seen = 0
+        for draw, book in ringless(range(120)):
+            shape, rows = Shape(book), draw.drawn_rows()
+            lengths = tuple(len(row) for row in rows)
+            spots = set(spots_of(shape, lengths))
+            for tree in all_candidates(shape, rows):
+                for _, lot, stretch in nodes_of(book, tree, whole_of(lengths)):
+                    seen += 1
+                    self.assertIn((lot, stretch), spots)
+        self.assertGreater(seen, 150)
 
     def test_programs_without_useful_lots(self):
         found = [book for _, book in drawn_books(range(200))
