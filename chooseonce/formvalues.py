@@ -1,7 +1,6 @@
 """The values of formulas at one node."""
 
 from chooseonce.dresses import text_at
-from chooseonce.kinds import part_places
 
 
 def form_value(book, kinds, form, dress, given):
@@ -60,4 +59,5 @@ def _num_value(book, name, refs, dress):
 
 
 def _value_of_part(kinds, place, given):
-    return given[part_places(kinds).index(place)]
+    # Part by part: as many stand ahead of it as there are parts ahead of its place.
+    return given[kinds[:place].count("lot")]

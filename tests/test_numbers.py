@@ -89,6 +89,21 @@ class Counted(Case):
                         self.raises(BadCandidate(*wrong), numbers.number_of, torn)
         self.assertLessEqual({"lot", "way", "cut", "width", "parts"}, seen)
 
+    def test_letters_and_tests_that_do_not_hold(self):
+        stop = ("fold", 0, ((0,),), ())
+        free = ("fold", 1, ((1, 0),), (stop,))
+        numbers = Numbers(shape_of(FOLD), ("aab",))
+        self.raises(BadCandidate((), "test"), numbers.number_of, ("fold", 2, ((1, 0, 1, 1),), (stop, free)))
+        inner = ("fold", 2, ((1, 0, 1, 0),), (stop, stop))
+        self.same(numbers.nth(numbers.number_of(("fold", 1, ((1, 2),), (inner,)))), ("fold", 1, ((1, 2),), (inner,)))
+        self.raises(BadCandidate((0,), "test"), Numbers(shape_of(FOLD), ("abb",)).number_of,
+                    ("fold", 1, ((1, 2),), (inner,)))
+        numbers = Numbers(shape_of(EDGE), ("ba",))
+        more = ("edge", 1, ((1, 0),), (("edge", 0, ((0,),), ()),))
+        tree = ("whole", 0, ((1, 1),), (more, ("core", 0, ((1,),), ())))
+        self.same((numbers.number_of(tree), numbers.nth(0)), (0, tree))
+        self.raises(BadCandidate((1,), "sign"), Numbers(shape_of(EDGE), ("bb",)).number_of, tree)
+
     def test_drawn_programs(self):
         for draw, book in ringless(range(150)):
             shape, rows = Shape(book), draw.drawn_rows()
