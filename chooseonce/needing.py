@@ -1,42 +1,76 @@
 """Which spots a spot needs, and in which orders spots may be worked out."""
 
-from chooseonce.looks import Looks
+from chooseonce.partspots import PartSpots
+from chooseonce.planning import room_of
 from chooseonce.plans import check_plan
-from chooseonce.spots import in_order, is_spot, part_spots, spots_of, wave_key
+from chooseonce.spots import in_order, is_spot, spots_of, wave_key
+
+
+class OrderSoFar:
+    """The spots that stand in an order so far."""
+
+    def __init__(self, shape, plan):
+        self.plan = plan
+        self._parts = PartSpots(shape)
+        self._standing = {}
+        # Spots that are not kept, all needs of which stand: none of them is gone through twice.
+        self._ready = {}
+
+    def has(self, spot):
+        """Whether the spot stands in it."""
+        return spot in self._standing
+
+    def go_on(self, spot):
+        """Puts the spot, all needs of which stand, behind those that stand."""
+        self._standing[spot] = True
+
+    def has_needs_of(self, spot):
+        """Whether all needs of the spot stand."""
+        found = {}
+        due = [spot]
+        while due:
+            one = due.pop()
+            for part in self._parts.asked_by(one):
+                if part[0] in self.plan:
+                    if part not in self._standing:
+                        return False
+                elif part not in self._ready and part not in found:
+                    found[part] = True
+                    due.append(part)
+        for part in found:
+            self._ready[part] = True
+        return True
 
 
 def needs_of(shape, lengths, plan, spot):
     """The kept spots that are asked for when the spot is worked out, each once, in order."""
     check_plan(shape, plan)
-    looks = Looks(shape)
+    parts = PartSpots(shape)
     asked = {}
     due = [spot]
     while due:
         one = due.pop()
-        for number, cut in looks.every(one):
-            for part in part_spots(shape, one, number, cut):
-                if part not in asked and part[0] not in plan:
-                    due.append(part)
-                asked[part] = True
+        for part in parts.asked_by(one):
+            if part not in asked and part[0] not in plan:
+                due.append(part)
+            asked[part] = True
     return in_order(shape, [one for one in asked if one[0] in plan])
 
 
 def order_fits(shape, lengths, plan, order):
     """None if it is an order by the plan, else the place of what is wrong in it, and why."""
     check_plan(shape, plan)
-    places = {}
-    for number, spot in enumerate(order):
-        places.setdefault(spot, number)
-    needed = _needed_places(shape, lengths, plan, places, len(order))
+    so_far = OrderSoFar(shape, plan)
     for number, spot in enumerate(order):
         if spot[0] not in plan or not is_spot(shape, lengths, spot):
             return (number, "spot")
-        if places[spot] < number:
+        if so_far.has(spot):
             return (number, "twice")
-        if needed[spot] >= number:
+        if not so_far.has_needs_of(spot):
             return (number, "early")
-    missing = [spot for spot in needed if spot[0] in plan and spot not in places]
-    return (len(order), "left") if missing else None
+        so_far.go_on(spot)
+    # All that stand are unlike kept spots, so their number tells whether one is missing.
+    return (len(order), "left") if len(order) < room_of(shape, lengths, plan) else None
 
 
 def waves_of(shape, lengths):
@@ -45,21 +79,3 @@ def waves_of(shape, lengths):
     for spot in spots_of(shape, lengths):
         waves.setdefault(wave_key(shape, spot), []).append(spot)
     return tuple([tuple(waves[key]) for key in waves])
-
-
-def _needed_places(shape, lengths, plan, places, missing):
-    """A dict from each spot to the last of the places of its needs, -1 without a need.
-
-    places tells the places of spots in an order; missing is the place of those not in it.
-    """
-    looks = Looks(shape)
-    needed = {}
-    for spot in spots_of(shape, lengths):
-        last = -1
-        for number, cut in looks.every(spot):
-            for part in part_spots(shape, spot, number, cut):
-                # A part that is not kept needs what it is worked out from.
-                place = places.get(part, missing) if part[0] in plan else needed[part]
-                last = max(last, place)
-        needed[spot] = last
-    return needed

@@ -1,16 +1,43 @@
 """[77], [78]: the needs of spots, orders and waves."""
 
 import random
+from unittest import mock
 
 from chooseonce.errors import BadPlan
 from chooseonce.needing import needs_of, order_fits, waves_of
+from chooseonce.planning import price_of
 from chooseonce.shapes import Shape
 from chooseonce.spots import spots_of
 from tests.helping import EDGE, FOLD, TWIN, Case
 from tests.runreckoning import Reckoned, small_lengths
 from tests.shapedrawing import ringless
-from tests.test_prices import DOUBLE, shape_of
+from tests.test_prices import DOUBLE, THREE, shape_of
 from tests.test_spots import UNMADE
+
+# Its price over a row of 54 signs is 400000, though it has but one spot, without needs.
+RUNS = """signs ab
+rows 1
+start s
+lot s
+way run5(run 0 any, run 0 any, run 0 27, run 0 any, run 0 any)
+way run4(run 0 any, run 0 any, run 0 1, run 0 any)
+way run3(run 0 any, run 0 any, run 0 1)
+way run2(run 0 any, run 0 0)"""
+
+# There are very many ways to ask for the spots of u from that of the whole row, if s is not kept.
+HALVES = """signs a
+rows 1
+start s
+lot s
+way one(u)
+way two(s, s)
+lot u
+way sole(sign)"""
+
+
+def listing_no_cuts():
+    """Lets no cuts of spots be listed."""
+    return mock.patch("chooseonce.looks.cuts_of", side_effect=AssertionError)
 
 
 class Needs(Case):
@@ -59,6 +86,28 @@ class Needs(Case):
                         wanted = sorted(reckoned.needs(plan, spot), key=reckoned.order)
                         self.same(needs_of(shape, lengths, plan, spot), tuple(wanted))
 
+    def test_parts_that_are_not_empty(self):
+        for text in (TWIN, THREE):
+            shape = shape_of(text)
+            for lengths in ((0, 2), (1, 1), (2, 2)):
+                reckoned = Reckoned(shape.book.program, lengths)
+                for plan in reckoned.plans():
+                    for spot in reckoned.spots()[-9:]:
+                        wanted = sorted(reckoned.needs(plan, spot), key=reckoned.order)
+                        self.same(needs_of(shape, lengths, plan, spot), tuple(wanted))
+
+    def test_long_rows(self):
+        fold = shape_of(FOLD)
+        spots = spots_of(fold, (80,))
+        with listing_no_cuts():
+            # All that begin behind its first sign, and those behind a bond of this one.
+            self.same(needs_of(fold, (80,), ("fold",), spots[-1]),
+                      tuple(spot for spot in spots if spot[1][0][0] == 1 or spot[1][0] == (80, 80)
+                            or (spot[1][0][1] == 80 and spot[1][0][0] > 1)))
+            self.same(needs_of(shape_of(RUNS), (54,), ("s",), ("s", ((0, 54),))), ())
+            self.same(needs_of(shape_of(HALVES), (60,), ("u",), ("s", ((0, 60),))),
+                      tuple(("u", ((start, start + 1),)) for start in range(60)))
+
     def test_plans(self):
         edge = shape_of(EDGE)
         for plan, lot in ((("edge", "lost"), "lost"), (("edge", "edge"), "edge"), (("core", "whole"), "whole")):
@@ -106,6 +155,67 @@ class Orders(Case):
         moved = [whole] + [spot for spot in kept if spot != whole]
         self.same(order_fits(double, (1,), ("s", "u"), tuple(moved)), (0, "early"))
         self.same(order_fits(double, (1,), ("s", "u"), tuple(kept[:place])), (place, "left"))
+
+    def test_many_cuts(self):
+        runs = shape_of(RUNS)
+        self.same(price_of(runs, (54,), ("s",)), 400000)
+        whole = ("s", ((0, 54),))
+        with listing_no_cuts():
+            self.same(order_fits(runs, (54,), ("s",), ()), (0, "left"))
+            self.same(order_fits(runs, (54,), ("s",), (("s", ((0, 1),)),)), (0, "spot"))
+            self.assertIs(order_fits(runs, (54,), ("s",), (whole,)), None)
+            self.same(order_fits(runs, (54,), ("s",), (whole, whole)), (1, "twice"))
+            self.assertIs(order_fits(runs, (54,), (), ()), None)
+            self.same(order_fits(runs, (54,), (), (whole,)), (0, "spot"))
+
+    def test_long_orders(self):
+        fold = shape_of(FOLD)
+        spots = spots_of(fold, (80,))
+        halves = shape_of(HALVES)
+        units = tuple(("u", ((start, start + 1),)) for start in range(60))
+        long = tuple(spot for spot in spots_of(halves, (60,)) if spot[0] == "s")
+        with listing_no_cuts():
+            self.assertIs(order_fits(fold, (80,), ("fold",), spots), None)
+            self.same(order_fits(fold, (80,), ("fold",), spots[:-1]), (len(spots) - 1, "left"))
+            # Nothing asks for the stretch ahead of the first sign, but much for that behind it.
+            self.same(order_fits(fold, (80,), ("fold",), spots[1:]), (3320, "left"))
+            self.same(order_fits(fold, (80,), ("fold",), spots[:1] + spots[2:]), (80, "early"))
+            self.same(order_fits(fold, (80,), ("fold",), spots[:-2] + spots[-1:]), (len(spots) - 2, "early"))
+            self.same(order_fits(fold, (80,), ("fold",), spots[::-1]), (0, "early"))
+            self.assertIs(order_fits(halves, (60,), ("u",), units[::-1]), None)
+            self.same(order_fits(halves, (60,), ("u",), units[:-1]), (59, "left"))
+            self.assertIs(order_fits(halves, (60,), ("s",), long), None)
+            self.same(order_fits(halves, (60,), ("s",), long[1:]), (59, "early"))
+            self.assertIs(order_fits(halves, (60,), ("s", "u"), units + long), None)
+
+    def test_a_need_by_way_of_spots_that_are_not_kept(self):
+        # Each t asks for a w and, by way of v, for a u.
+        text = """signs a
+rows 1
+start s
+lot s
+way f(t, sign)
+way g(sign, t)
+lot t
+way h(w, v)
+lot v
+way i(u, sign)
+lot u
+way j(sign)
+lot w
+way k(sign)"""
+        shape = shape_of(text)
+        t0, t1 = ("t", ((0, 3),)), ("t", ((1, 4),))
+        u0, u1, w0, w1 = ("u", ((1, 2),)), ("u", ((2, 3),)), ("w", ((0, 1),)), ("w", ((1, 2),))
+        plan = ("t", "u", "w")
+        self.same(needs_of(shape, (4,), plan, t0), (u0, w0))
+        self.same(needs_of(shape, (4,), plan, ("s", ((0, 4),))), (t0, t1))
+        self.same(needs_of(shape, (4,), ("u", "w"), ("s", ((0, 4),))), (u0, u1, w0, w1))
+        self.assertIs(order_fits(shape, (4,), plan, (u0, w0, t0, w1, u1, t1)), None)
+        self.same(order_fits(shape, (4,), plan, (w0, t0, u0, w1, u1, t1)), (1, "early"))
+        self.same(order_fits(shape, (4,), plan, (u1, w0, t0, w1, u0, t1)), (2, "early"))
+        self.same(order_fits(shape, (4,), plan, (u0, w0, t0, w1, t1, u1)), (4, "early"))
+        self.same(order_fits(shape, (4,), plan, (u0, w0, t0, u1, t1, w1)), (4, "early"))
 
     def test_drawn_orders(self):
         for seed, (draw, book) in enumerate(ringless(range(60))):

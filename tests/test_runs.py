@@ -24,6 +24,7 @@ from tests.runreckoning import Reckoned
 from tests.shapedrawing import ringless
 from tests.test_choosing import ASKS, MORE
 from tests.test_mending import DRAWN
+from tests.test_needing import RUNS, listing_no_cuts
 from tests.test_prices import DOUBLE, shape_of
 from tests.test_spots import UNMADE
 
@@ -207,6 +208,14 @@ class Wrong(Case):
         self.raises(BadOrder(4, "early"), run_plan, fold, WAYS, ("ab",), ("fold",), spots[:4] + spots[5:])
         self.raises(BadOrder(6, "twice"), run_plan, fold, WAYS, ("ab",), ("fold",), spots + spots)
         self.raises(BadPlan("edge"), resumed, shape_of(EDGE), ("first",), ("aa",), ("core", "edge"), ())
+
+    def test_orders_are_judged_ahead_of_the_work(self):
+        runs = shape_of(RUNS)
+        whole, part = ("s", ((0, 54),)), ("s", ((0, 1),))
+        with listing_no_cuts():
+            for order, error in (((), BadOrder(0, "left")), ((part,), BadOrder(0, "spot")),
+                                 ((whole, part), BadOrder(1, "spot")), ((whole, whole), BadOrder(1, "twice"))):
+                self.raises(error, run_plan, runs, ("first",), ("ab" * 27,), ("s",), order)
 
     def test_prices_by_the_limit(self):
         fold = shape_of(FOLD)
